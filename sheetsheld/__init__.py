@@ -1,0 +1,1 @@
+"""Two workbooks' sheets held against one another: sheetsheld.desk.answers(calls)."""
